@@ -1,0 +1,74 @@
+import importlib
+import inspect
+import unittest
+
+import source
+
+FUNCTIONS = {
+    "ratio": {"zero": [], "one": [], "total": ["numbers"], "read_ratio": ["text"], "is_integer": ["value"]},
+    "linear": {"dot": ["a", "b"], "combine": ["rows", "width", "weights"],
+               "shows_independent": ["rows", "width", "duals"], "is_vector": ["value", "length"]},
+    "poly": {"constant": ["r"], "variable": [], "monomial": ["r", "k"], "product": ["polys"]},
+    "divisor": {"common_divisor": ["p", "q"], "cofactors": ["p", "q"], "combine_to": ["a", "b", "c"],
+                "squarefree_parts": ["p"], "squarefree_part": ["p"], "separate": ["p", "q"],
+                "multiplicity": ["p", "a"], "balance": ["p", "a"], "balanced": ["polys"]},
+    "roots": {"resultant": ["p", "q"], "resultant_in_v": ["p", "rows"], "rational_roots": ["p"],
+              "integer_roots": ["p", "least", "most"]},
+    "ratfun": {"of_poly": ["p"], "of_ratio": ["q"], "the_variable": [], "added": ["items"],
+               "multiplied": ["items"]},
+    "operator": {"of_function": ["f"], "derivation": [], "first_order": ["u"], "annihilator": ["y"]},
+}
+
+CLASSES = {
+    "errors": {"Fault": "", "ZeroDivisor": "", "Malformed": "", "Refused": "__init__", "NoText": "__init__"},
+    "ratio": {"Ratio": "__init__ __add__ __sub__ __mul__ __neg__ __eq__ __str__ inverse over power compare sign"
+                       " floor whole is_zero"},
+    "linear": {"Matrix": "__init__ __len__ __eq__ __iter__ transposed times reduced rank kernel solve shows_none"
+                         " duals dependence"},
+    "poly": {"Poly": "__init__ __add__ __sub__ __mul__ __neg__ __eq__ __floordiv__ __mod__ __call__ __iter__ degree"
+                     " is_zero last coefficient terms scaled power monic derivative shifted turned divides"
+                     " primitive"},
+    "ratfun": {"RatFun": "__init__ __add__ __sub__ __mul__ __neg__ __floordiv__ __eq__ __call__ is_zero"
+                         " is_polynomial as_constant derivative log_derivative inverse power order_at degree"
+                         " leading shifted"},
+    "operator": {"Operator": "__init__ __add__ __sub__ __neg__ __mul__ __eq__ __len__ __getitem__ __iter__ __call__"
+                             " order is_zero leading monic scaled after power divide adjoint moved"},
+}
+
+# The files in the order of the chapters; integers.py holds what several of them use.
+ORDER = ("errors", "integers", "ratio", "linear", "poly", "divisor", "roots", "ratfun", "operator")
+
+
+class Interface(unittest.TestCase):
+    def test_functions_stand_in_their_files(self):
+        for name, table in FUNCTIONS.items():
+            tree = source.tree_of(f"{name}.py")
+            module = importlib.import_module(f"indicial.{name}")
+            for function, arguments in table.items():
+                self.assertIn(function, source.defined(tree))
+                self.assertEqual(list(inspect.signature(getattr(module, function)).parameters), arguments)
+
+    def test_classes_and_their_methods_stand_in_their_files(self):
+        for name, table in CLASSES.items():
+            tree = source.tree_of(f"{name}.py")
+            for class_name, methods in table.items():
+                self.assertIn(class_name, source.defined(tree))
+                for method in methods.split():
+                    self.assertIn(method, source.methods(tree, class_name))
+
+    def test_the_package_itself_defines_nothing(self):
+        self.assertEqual(source.tree_of("__init__.py").body, [])
+
+    def test_each_chapter_uses_only_those_before_it(self):
+        for name, _, tree in source.modules():
+            if name == "__init__":
+                continue
+            self.assertIn(name, ORDER)
+            for module, _ in source.imports(tree):
+                if module != "math":
+                    self.assertTrue(module.startswith("indicial."))
+                    self.assertTrue(ORDER.index(module[9:]) < ORDER.index(name), (name, module))
+
+
+if __name__ == "__main__":
+    unittest.main()
