@@ -20,7 +20,8 @@ class Operator:
         return Operator([self[i] + other[i] for i in range(size)])
 
     def __sub__(self, other):
-        return self + (-other)
+        size = max(len(self.coefficients), len(other.coefficients))
+        return Operator([self[i] - other[i] for i in range(size)])
 
     def __neg__(self):
         return Operator([-f for f in self.coefficients])

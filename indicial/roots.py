@@ -45,8 +45,6 @@ def product_over_roots(p, rows, v, bound):
     value = Poly(())
     for row in rows[::-1]:
         value = value.scaled(Ratio(v)) + row
-    if value.is_zero():
-        return zero()
     return resultant(p, value) * p.last().power(bound - value.degree())
 
 

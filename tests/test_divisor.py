@@ -1,6 +1,7 @@
 import random
 import unittest
 from fractions import Fraction
+from unittest import mock
 
 from helpers import X, poly, some_nonzero, some_poly, with_roots
 from indicial.divisor import (
@@ -69,6 +70,21 @@ class CommonDivisor(unittest.TestCase):
         for size in (10, 10 ** 9, 10 ** 40, 10 ** 300):
             common, p, q = (some_nonzero(source, 6, size) for _ in range(3))
             self.assertEqual(common_divisor(common * p, common * q), common.monic())
+
+    def test_large_monic(self):
+        # A divisor modulo the first prime that divides neither polynomial is not taken.
+        for n in (10 ** 12, 10 ** 30, -10 ** 200):
+            self.assertEqual(common_divisor(poly(n, 1) * poly(1, 1), poly(n, 1) * poly(2, 1)), poly(n, 1))
+            self.assertEqual(common_divisor(poly(n, n, 1), poly(n + 1, n, 1)), ONE)
+
+    def test_fast_way_is_enough(self):
+        # Euclid's algorithm with its long numbers is the last resort only.
+        source = random.Random(14)
+        with mock.patch("indicial.integers.euclid_divisor", side_effect=AssertionError):
+            for size in (9, 10 ** 6, 10 ** 25):
+                for _ in range(10):
+                    common, p, q = (some_nonzero(source, 3, size) for _ in range(3))
+                    self.assertEqual(common_divisor(common * p, common * q), common.monic())
 
     def test_coefficients_that_the_primes_divide(self):
         for m in FIELDS:
@@ -268,6 +284,10 @@ class Balanced(unittest.TestCase):
         self.assertEqual(balanced([with_roots(1, 2), with_roots(1, 2, 1, 2)]), (with_roots(1, 2),))
         self.assertEqual(balanced((PLUS * X, X)), (X, PLUS))
         self.assertEqual(balanced((with_roots(1, 2), with_roots(3, 4))), (with_roots(1, 2), with_roots(3, 4)))
+
+    def test_one_root(self):
+        self.assertEqual(balanced((X,)), (X,))
+        self.assertEqual(balanced((ONE, poly(0, 0, -3), poly(5))), (X,))
 
     def test_empty(self):
         for polys in ((), [], (ONE,), [poly(4), poly(Fraction(1, 2))]):

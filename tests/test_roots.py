@@ -108,6 +108,10 @@ class ResultantInV(unittest.TestCase):
         self.assertEqual(resultant_in_v(X, (ZERO, ONE, ZERO)), X)
         self.assertEqual(resultant_in_v(X, (poly(0, 1), poly(0, 3))), ZERO)
 
+    def test_zero_row_between_others(self):
+        self.assertEqual(self.assert_values(X, (ONE, ZERO, ONE)), PLUS)
+        self.assert_values(EVEN, (poly(0, 1), ZERO, ZERO, poly(2, 3), ZERO))
+
     def test_malformed(self):
         for p in (ZERO, ONE, poly(-5)):
             for rows in ((), (ONE,), (X, ZERO), (ZERO,)):
@@ -164,6 +168,12 @@ class RationalRoots(unittest.TestCase):
         big = 10 ** 80 + 3
         roots = (Fraction(-big), Fraction(1, big), Fraction(big, 7), Fraction(big + 1))
         self.assertEqual(rational_roots(with_roots(*roots) * PLUS), tuple(ratio(a) for a in sorted(roots)))
+
+    def test_single_roots(self):
+        for n in list(range(-40, 41)) + [120, 127, 128, 129, 200, 255, 256, 257, -200, 40000, 65535, 65536]:
+            self.assertEqual(rational_roots(poly(-n, 1)), (Ratio(n),))
+            self.assertEqual(rational_roots(poly(-n, 3)), (Ratio(n, 3),))
+            self.assertEqual(integer_roots(poly(-n, 1) * PLUS), (n,))
 
     def test_many_roots(self):
         self.assertEqual(integer_roots(with_roots(*range(-20, 21))), tuple(range(-20, 21)))
