@@ -6,6 +6,7 @@ from indicial.operator import Operator
 from indicial.poly import Poly, constant, product
 from indicial.ratfun import RatFun
 from indicial.ratio import Ratio
+from indicial.text import read_function, read_operator
 
 X = Poly((0, 1))
 
@@ -83,3 +84,20 @@ def determinant(rows):
             minor = [row[:column] + row[column + 1:] for row in rows[1:]]
             found += (-1) ** column * item * determinant(minor)
     return found
+
+
+def operator(text):
+    return read_operator(text)
+
+
+def function(text):
+    return read_function(text)
+
+
+def functions_of(*texts):
+    return tuple(read_function(text) for text in texts)
+
+
+def polys_of(*texts):
+    """The polynomials with these texts."""
+    return tuple(read_function(text).num for text in texts)

@@ -17,6 +17,21 @@ FUNCTIONS = {
     "ratfun": {"of_poly": ["p"], "of_ratio": ["q"], "the_variable": [], "added": ["items"],
                "multiplied": ["items"]},
     "operator": {"of_function": ["f"], "derivation": [], "first_order": ["u"], "annihilator": ["y"]},
+    "text": {"read_function": ["text", "name"], "read_operator": ["text", "name"], "show_poly": ["p", "name"],
+             "show_function": ["f", "name"], "show_operator": ["op", "name"]},
+    "common": {"right_divisor": ["a", "b"], "left_multiple": ["a", "b"], "quotient": ["a", "m"], "share": ["a", "b"]},
+    "closure": {"of_sum": ["a", "b"], "of_image": ["a", "m"], "of_product": ["a", "b"],
+                "of_power": ["a", "k", "most"]},
+    "local": {"falling": ["k"], "reach": ["polys", "p"], "least_order": ["polys", "p", "low"],
+              "degree_bound": ["polys", "high"]},
+}
+
+# The arguments that are given by name, with their values if they are not given.
+NAMED = {
+    "roots": {"integer_roots": {"least": None, "most": None}},
+    "text": {"read_function": {"name": "x"}, "read_operator": {"name": "x"}, "show_poly": {"name": "x"},
+             "show_function": {"name": "x"}, "show_operator": {"name": "x"}},
+    "closure": {"of_power": {"most": 60}},
 }
 
 CLASSES = {
@@ -33,10 +48,13 @@ CLASSES = {
                          " leading shifted"},
     "operator": {"Operator": "__init__ __add__ __sub__ __neg__ __mul__ __eq__ __len__ __getitem__ __iter__ __call__"
                              " order is_zero leading monic scaled after power divide adjoint moved"},
+    "local": {"Exponents": "__init__ lowest __iter__ __len__ value __contains__ eliminant integers rationals",
+              "Infinity": "__init__ highest polynomial __contains__ integers rationals"},
 }
 
-# The files in the order of the chapters; integers.py holds what several of them use.
-ORDER = ("errors", "integers", "ratio", "linear", "poly", "divisor", "roots", "ratfun", "operator")
+# The files in the order of the chapters, with the internal ones where they are used first.
+ORDER = ("errors", "integers", "ratio", "linear", "poly", "divisor", "roots", "ratfun", "operator", "text",
+         "vectors", "common", "closure", "zeros", "local")
 
 
 class Interface(unittest.TestCase):
@@ -47,6 +65,14 @@ class Interface(unittest.TestCase):
             for function, arguments in table.items():
                 self.assertIn(function, source.defined(tree))
                 self.assertEqual(list(inspect.signature(getattr(module, function)).parameters), arguments)
+
+    def test_arguments_that_are_given_by_name(self):
+        for name, table in NAMED.items():
+            module = importlib.import_module(f"indicial.{name}")
+            for function, arguments in table.items():
+                parts = inspect.signature(getattr(module, function)).parameters.values()
+                found = {part.name: part.default for part in parts if part.kind is part.KEYWORD_ONLY}
+                self.assertEqual(found, arguments, (name, function))
 
     def test_classes_and_their_methods_stand_in_their_files(self):
         for name, table in CLASSES.items():
