@@ -12,11 +12,7 @@ MINUS = 40
 EXPONENT = 30
 WEIGHT = 200
 
-# Words that stand for the end of a text, and for a character that begins no token.
-END = "end"
-BAD = "bad"
-# The sign of a negative, as the signs of differences are called "-".
-NEGATIVE = "negative"
+# The signs between two operands.
 SIGNS = ("+", "-", "*", "/")
 
 # What may stand at a place of a text, and the place behind it.
@@ -27,14 +23,14 @@ NEXT = {
     ("exponent", "number"): "power", ("minus", "number"): "power",
     ("atom", "+"): "operand", ("atom", "-"): "operand",
     ("atom", "*"): "operand", ("atom", "/"): "operand",
-    ("atom", ")"): "atom", ("atom", END): "done",
+    ("atom", ")"): "atom", ("atom", "end"): "done",
     ("power", "+"): "operand", ("power", "-"): "operand",
     ("power", "*"): "operand", ("power", "/"): "operand",
-    ("power", ")"): "atom", ("power", END): "done",
+    ("power", ")"): "atom", ("power", "end"): "done",
 }
 
-# A sign takes the operands of the signs before it that have at least its level.
-LEVELS = {"(": 0, ")": 1, END: 1, "+": 1, "-": 1, "*": 2, "/": 2, NEGATIVE: 3}
+# A sign comes after the signs before it that have at least its level; "negative" begins a factor.
+LEVELS = {"(": 0, ")": 1, "end": 1, "+": 1, "-": 1, "*": 2, "/": 2, "negative": 3}
 
 
 def read_function(text, *, name="x"):
@@ -56,27 +52,27 @@ def program_of(text, letters):
 
 
 def tokens_of(text, letters):
-    """Return the pairs (word, at) of the tokens, with END behind them, or BAD where they stop."""
+    """Return the pairs (word, at) of the tokens, with "end" behind them, or "bad" where they stop."""
     found = []
     at = 0
     while at < len(text):
         word = word_at(text, at, letters)
-        if word == BAD:
-            return found + [(BAD, at)]
+        if word == "bad":
+            return found + [("bad", at)]
         if word != " ":
             found.append((word, at))
         at = at + len(word)
-    return found + [(END, len(text))]
+    return found + [("end", len(text))]
 
 
 def word_at(text, at, letters):
-    """Return the token or the space at an index, or BAD."""
+    """Return the token or the space at an index, or "bad"."""
     here = text[at]
     if here in "123456789":
         return number_at(text, at)
     if here in letters or here in " 0+-*/^()":
         return here
-    return BAD
+    return "bad"
 
 
 def number_at(text, at):
@@ -99,7 +95,7 @@ def checked(tokens):
             raise NoText(at)
         depth = depth + depth_of(word)
         minus = minus + 1 if place == "operand" and word == "-" else 0
-        if not 0 <= depth <= DEPTH or minus > MINUS or (word == END and depth > 0):
+        if not 0 <= depth <= DEPTH or minus > MINUS or (word == "end" and depth > 0):
             raise NoText(at)
         if after == "power" and int(word) > EXPONENT:
             raise NoText(at)
@@ -135,7 +131,7 @@ def postfix(symbols):
             if kind_of(word) in ("number", "letter"):
                 program.append((word, 0))
             else:
-                pending.append(NEGATIVE if word == "-" else word)
+                pending.append("negative" if word == "-" else word)
         elif kind_of(word) == "number":
             program.append(("^", -int(word) if place == "minus" else int(word)))
         elif place != "exponent" and word != "^":
@@ -143,7 +139,7 @@ def postfix(symbols):
                 program.append((pending.pop(), 0))
             if word == ")":
                 pending.pop()
-            elif word != END:
+            elif word != "end":
                 pending.append(word)
     return program
 
@@ -156,7 +152,7 @@ def weight_of(program):
             right = stack.pop()
             left = stack.pop()
             stack.append(left + right + 1)
-        elif word == NEGATIVE:
+        elif word == "negative":
             stack.append(stack.pop() + 1)
         elif word == "^":
             stack.append(stack.pop() * abs(k) + 1)
@@ -173,7 +169,7 @@ def value_of(program, name):
             right = stack.pop()
             left = stack.pop()
             stack.append(joined(left, word, right))
-        elif word == NEGATIVE:
+        elif word == "negative":
             stack.append(-stack.pop())
         elif word == "^":
             stack.append(raised(stack.pop(), k))

@@ -24,6 +24,13 @@ FUNCTIONS = {
                 "of_power": ["a", "k", "most"]},
     "local": {"falling": ["k"], "reach": ["polys", "p"], "least_order": ["polys", "p", "low"],
               "degree_bound": ["polys", "high"]},
+    "clear": {"cleared": ["operator", "rights"]},
+    "series": {"expand": ["f", "a", "count"], "solution": ["operator", "a", "initial", "count", "right"],
+               "frobenius": ["operator", "a", "exponent", "count"], "agrees": ["operator", "a", "series"]},
+    "spaces": {"denominator_bound": ["operator", "rights"], "equations": ["a", "g", "degree"],
+               "polynomial_space": ["operator", "rights"], "rational_space": ["operator", "rights"]},
+    "systems": {"system_space": ["rows", "rights"], "companion": ["operator"], "first_equation": ["rows", "rights"],
+                "inverse_matrix": ["rows"]},
 }
 
 # The arguments that are given by name, with their values if they are not given.
@@ -32,6 +39,7 @@ NAMED = {
     "text": {"read_function": {"name": "x"}, "read_operator": {"name": "x"}, "show_poly": {"name": "x"},
              "show_function": {"name": "x"}, "show_operator": {"name": "x"}},
     "closure": {"of_power": {"most": 60}},
+    "series": {"solution": {"right": None}},
 }
 
 CLASSES = {
@@ -50,11 +58,14 @@ CLASSES = {
                              " order is_zero leading monic scaled after power divide adjoint moved"},
     "local": {"Exponents": "__init__ lowest __iter__ __len__ value __contains__ eliminant integers rationals",
               "Infinity": "__init__ highest polynomial __contains__ integers rationals"},
+    "series": {"Recurrence": "__init__ __eq__ __iter__ offsets rule first final image"},
+    "spaces": {"Space": "__init__ __len__ __iter__ __contains__ __eq__ least_denominator top_degree solution"
+                        " homogeneous"},
 }
 
 # The files in the order of the chapters, with the internal ones where they are used first.
 ORDER = ("errors", "integers", "ratio", "linear", "poly", "divisor", "roots", "ratfun", "operator", "text",
-         "vectors", "common", "closure", "zeros", "local")
+         "vectors", "common", "closure", "clear", "zeros", "local", "series", "sparse", "spaces", "systems")
 
 
 class Interface(unittest.TestCase):
