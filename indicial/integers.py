@@ -9,8 +9,10 @@ from math import gcd
 DIGITS = 64
 PART = 10 ** 64
 
-# Primes: in the fields modulo them a greatest common divisor is found fast.
-FIELDS = ((1 << 61) - 1, (1 << 521) - 1, (1 << 2203) - 1, (1 << 9689) - 1)
+# Primes: in the fields modulo them a greatest common divisor is found fast. The last one is 2^9689 - 1.
+FIELDS = (
+    (1 << 61) - 1, (1 << 521) - 1, (1 << 2203) - 1,
+    (1 << 3000) * (1 << 3000) * (1 << 3000) * (1 << 689) - 1)
 
 
 def decimal(n):

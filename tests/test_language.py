@@ -107,6 +107,19 @@ class Language(unittest.TestCase):
                 self.assertNotIn("%", node.value, name)
         self.assertEqual(list(nodes((ast.Set, ast.SetComp, ast.Starred, ast.GeneratorExp))), [])
 
+    def test_values_at_module_level(self):
+        for name, _, tree in source.modules():
+            for statement in tree.body:
+                if not isinstance(statement, ast.Assign):
+                    continue
+                for node in ast.walk(statement):
+                    self.assertNotIsInstance(node, ast.Call, name)
+                    if isinstance(node, ast.BinOp) and isinstance(node.op, (ast.LShift, ast.RShift)):
+                        self.assertIsInstance(node.right, ast.Constant, name)
+                        self.assertTrue(0 <= node.right.value <= 3000, (name, node.lineno))
+                    if isinstance(node, ast.Constant) and isinstance(node.value, int):
+                        self.assertTrue(abs(node.value) < 10 ** 900, (name, node.lineno))
+
     def test_builtins(self):
         for name, node in nodes(ast.Name):
             if hasattr(builtins, node.id) and isinstance(node.ctx, ast.Load):
