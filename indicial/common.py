@@ -32,9 +32,9 @@ def left_multiple(a, b):
 
 
 def euclid(a, b):
-    """Return (g, u, w), for b not zero: g is a greatest common right divisor, b divides g - u * a.
+    """Return (g, u, w): g is a greatest common right divisor, and b divides g - u * a.
 
-    And w is of the least order such that b divides w * a.
+    If b is not zero, w is of the least order such that b divides w * a.
     """
     before, rest = a, b
     last, found = of_function(of_ratio(one())), Operator(())
@@ -63,6 +63,4 @@ def quotient(a, m):
 
 def share(a, b):
     """Return True if a divisor of positive order divides both from the right."""
-    if b.is_zero():
-        return a.order() > 0
     return euclid(a, b)[0].order() > 0

@@ -158,6 +158,9 @@ class Powers(unittest.TestCase):
         with self.assertRaises(Refused):
             of_power(operator("D^3"), 10)
         self.assertEqual(of_power(operator("D"), 10, most=1), D)
+        self.assertEqual(of_power(D.power(60), 1), D.power(60))
+        with self.assertRaises(Refused):
+            of_power(D.power(61), 1)
 
     def test_zero_comes_first(self):
         for most in (0, 60):

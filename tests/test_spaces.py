@@ -178,6 +178,7 @@ class Solution(unittest.TestCase):
         self.assertEqual(space.solution(vector(2, 2)), functions_of("2*x"))
         self.assertIsNone(space.solution(vector(1, 0)))
         self.assertIsNone(space.solution(vector(1, 2)))
+        self.assertIsNone(space.solution(vector(2)))
         self.assertEqual(Space([], sides=1).solution(vector(0)), functions_of("0"))
         self.assertIsNone(Space([], sides=1).solution(vector(1)))
 
