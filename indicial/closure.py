@@ -7,7 +7,7 @@ from indicial.errors import Refused, ZeroDivisor
 from indicial.operator import Operator
 from indicial.ratfun import of_ratio
 from indicial.ratio import Ratio, one, zero
-from indicial.vectors import chain, companion_rows, unit_row
+from indicial.vectors import chain_from, companion_rows, unit_row
 
 
 def of_sum(a, b):
@@ -53,7 +53,7 @@ def annihilating(start, rows):
 
     The rows tell the derivatives of the symbols, the expression is a vector of their multiples.
     """
-    weights = chain(start, rows)[1]
+    weights = chain_from(start, rows)[1]
     return Operator([-f for f in weights] + [of_ratio(one())])
 
 

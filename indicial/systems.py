@@ -7,7 +7,7 @@ from indicial.ratfun import added, of_ratio
 from indicial.ratio import one, zero
 from indicial.spaces import Space, rational_space
 from indicial.vectors import (
-    chain, combination, companion_rows, reduced_by, times_rows, times_vector, unit_row)
+    chain_from, combination, companion_rows, reduced_by, times_rows, times_vector, unit_row)
 
 # The greatest size of a system.
 LARGEST = 6
@@ -29,7 +29,7 @@ def companion(operator):
 def first_equation(rows, rights=()):
     """Return (operator, sides): the equation of the first component."""
     refuse_other_sizes(rows, rights)
-    vectors, weights = chain(unit_row(0, len(rows)), rows)
+    vectors, weights = chain_from(unit_row(0, len(rows)), rows)
     return equation_of(weights, chain_sides(vectors, rights))
 
 
@@ -77,7 +77,7 @@ def solutions(rows, rights):
     size = len(rows)
     if size == 0:
         return [((), unit_vector(j, len(rights))) for j in range(len(rights))]
-    vectors, weights = chain(unit_row(0, size), rows)
+    vectors, weights = chain_from(unit_row(0, size), rows)
     sides = chain_sides(vectors, rights)
     operator, right_sides = equation_of(weights, sides)
     pairs = list(rational_space(operator, right_sides))

@@ -99,7 +99,7 @@ def combination(polys, size):
     return [RatFun(-p, last) for p in polys[size:-1]]
 
 
-def chain(start, rows):
+def chain_from(start, rows):
     """Return (vectors, weights): a chain up to the first vector that the ones before it combine to.
 
     The weights are the multiples of the vectors that add up to the next one.
