@@ -16,7 +16,7 @@ class Space:
     """All sums of multiples of some pairs, each with `size` functions and `sides` numbers."""
 
     def __init__(self, pairs, *, size=1, sides=0):
-        if not is_count(size, 1) or not is_count(sides, 0):
+        if not is_from(size, 1) or not is_from(sides, 0):
             raise Malformed("the size is an integer from 1 on, the number of sides one from 0 on")
         if not all([is_pair(pair, size, sides) for pair in pairs]):
             raise Malformed("a pair has not the functions and the numbers that are asked for")
@@ -90,8 +90,8 @@ class Space:
         return tuple([RatFun(p, self._den) for p in polys]), tuple(vector[:self.sides])
 
 
-def is_count(value, least):
-    """Return True for an integer from `least` on."""
+def is_from(value, least):
+    """Return True for an integer of at least this size."""
     return is_integer(value) and value >= least
 
 
