@@ -160,6 +160,9 @@ def eliminated(rows, width):
     chosen = []
     pivots = []
     for column in range(width):
+        # The width may be great where there are few rows, or none.
+        if len(rest) == 0:
+            break
         at = first_with_item(rest, column)
         if at < len(rest):
             top = rest[at]

@@ -129,15 +129,19 @@ def expanded(factors):
     return product([p.power(k) for p, k in factors])
 
 
+def numerator_operator(operator, factors):
+    """Return d times the operator of u, for y = u / d and the factors of d."""
+    # d times the product of the operator and 1/d is the operator moved by -d' / d: d itself, which
+    # may be large, is not needed.
+    return operator.moved(added([RatFun(p.derivative().scaled(Ratio(-k)), p) for p, k in factors]))
+
+
 def numerator_equation(operator, rights, factors):
     """Return the cleared form of the equation of u, for y = u / d and the factors of d."""
-    # Multiplied by d, the product of the operator and 1/d is the operator moved by -d' / d:
-    # without right sides d itself, which may be large, is not needed.
-    move = added([RatFun(p.derivative().scaled(Ratio(-k)), p) for p, k in factors])
-    if len(rights) > 0:
+    if any([not g.is_zero() for g in rights]):
         scale = of_poly(expanded(factors))
         rights = [g * scale for g in rights]
-    return cleared(operator.moved(move), rights)
+    return cleared(numerator_operator(operator, factors), rights)
 
 
 def greatest_degree(polys):
@@ -167,10 +171,14 @@ def columns_of(a, g, degree):
 def equations(a, g, degree):
     """Return the matrix whose kernel gives the solutions of at most this degree."""
     columns = columns_of(a, g, degree)
-    height = 1 + max([at for column in columns for at in column], default=-1)
     nothing = zero()
-    rows = [[column.get(at, nothing) for column in columns] for at in range(height)]
+    rows = [[column.get(at, nothing) for column in columns] for at in range(height_of(columns))]
     return Matrix(rows, len(columns))
+
+
+def height_of(columns):
+    """Return the number of the equations with these columns."""
+    return 1 + max([at for column in columns for at in column], default=-1)
 
 
 def solving_vectors(a, g, degree):
