@@ -31,6 +31,15 @@ FUNCTIONS = {
                "polynomial_space": ["operator", "rights"], "rational_space": ["operator", "rights"]},
     "systems": {"system_space": ["rows", "rights"], "companion": ["operator"], "first_equation": ["rows", "rights"],
                 "inverse_matrix": ["rows"]},
+    "products": {"candidates": ["operator"], "power_products": ["operator"], "all_members": ["operator"],
+                 "solves": ["operator", "product", "f"]},
+    "papers": {"make_paper": ["operator", "rights"]},
+    "checker": {"takes": ["operator", "rights", "space", "paper"]},
+    "packing": {"packed": ["value"], "unpacked": ["data"], "written": ["data"], "read_data": ["text"]},
+    "sheet": {"is_name": ["value"], "full_text": ["names", "text"], "read_line": ["names", "line", "name"],
+              "space_text": ["space", "name"], "product_text": ["product", "name"]},
+    "replies": {"reply_to": ["names", "line", "name"], "is_right": ["names", "entry", "name"]},
+    "log": {"write_log": ["entries"], "read_log": ["text"], "first_wrong": ["entries", "name"]},
 }
 
 # The arguments that are given by name, with their values if they are not given.
@@ -40,6 +49,19 @@ NAMED = {
              "show_function": {"name": "x"}, "show_operator": {"name": "x"}},
     "closure": {"of_power": {"most": 60}},
     "series": {"solution": {"right": None}},
+    "sheet": {"read_line": {"name": "x"}, "space_text": {"name": "x"}, "product_text": {"name": "x"}},
+    "replies": {"reply_to": {"name": "x"}, "is_right": {"name": "x"}},
+    "log": {"first_wrong": {"name": "x"}},
+}
+
+# The arguments that may be left out, and those of the classes.
+DEFAULTS = {
+    "spaces": {"polynomial_space": {"rights": ()}, "rational_space": {"rights": ()},
+               "Space": {"size": 1, "sides": 0}},
+    "systems": {"system_space": {"rights": ()}, "first_equation": {"rights": ()}},
+    "papers": {"make_paper": {"rights": ()}},
+    "replies": {"Reply": {"text": "", "data": ()}},
+    "console": {"Console": {"name": "x", "most": 1000}},
 }
 
 CLASSES = {
@@ -61,11 +83,16 @@ CLASSES = {
     "series": {"Recurrence": "__init__ __eq__ __iter__ offsets rule first final image"},
     "spaces": {"Space": "__init__ __len__ __iter__ __contains__ __eq__ least_denominator top_degree solution"
                         " homogeneous"},
+    "products": {"PowerProduct": "__init__ __iter__ __len__ log_derivative __mul__ surplus __eq__ __str__"
+                                 " without_factors"},
+    "replies": {"Reply": "__init__ __eq__"},
+    "console": {"Console": "__init__ __len__ __iter__ enter names log"},
 }
 
 # The files in the order of the chapters, with the internal ones where they are used first.
 ORDER = ("errors", "integers", "ratio", "linear", "poly", "divisor", "roots", "ratfun", "operator", "text",
-         "vectors", "common", "closure", "clear", "zeros", "local", "series", "sparse", "spaces", "systems")
+         "vectors", "common", "closure", "clear", "zeros", "local", "series", "sparse", "spaces", "systems", "products",
+         "papers", "checker", "packing", "sheet", "replies", "log", "console")
 
 
 class Interface(unittest.TestCase):
@@ -84,6 +111,17 @@ class Interface(unittest.TestCase):
                 parts = inspect.signature(getattr(module, function)).parameters.values()
                 found = {part.name: part.default for part in parts if part.kind is part.KEYWORD_ONLY}
                 self.assertEqual(found, arguments, (name, function))
+
+    def test_arguments_that_may_be_left_out(self):
+        for name, table in DEFAULTS.items():
+            module = importlib.import_module(f"indicial.{name}")
+            for function, arguments in table.items():
+                parts = inspect.signature(getattr(module, function)).parameters.values()
+                found = {part.name: part.default for part in parts if part.default is not part.empty}
+                self.assertEqual(found, arguments, (name, function))
+
+    def test_all_members_is_a_generator(self):
+        self.assertTrue(inspect.isgeneratorfunction(importlib.import_module("indicial.products").all_members))
 
     def test_classes_and_their_methods_stand_in_their_files(self):
         for name, table in CLASSES.items():
