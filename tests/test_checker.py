@@ -248,6 +248,28 @@ class Refusing(unittest.TestCase):
         paper = with_greater(op, rights, [(poly(0, -1, 1), 2)], 0)
         self.assertIs(takes(op, rights, make_paper(op, rights)[0], paper), False)
 
+    def test_the_least_order_and_the_greatest_degree_of_right_sides_count(self):
+        op, rights = operator("D"), functions_of("1/x", "1/x^3")
+        space = make_paper(op, rights)[0]
+        self.assertEqual([cs for _, cs in space], [vector(0, 1), vector(0, 0)])
+        part = Space([(functions_of("1"), vector(0, 0))], sides=2)
+        self.assertIs(takes(op, rights, part, with_greater(op, rights, [(X, 0)], 0)), False)
+        self.assertIs(takes(op, rights, space, with_greater(op, rights, [(X, 2)], 0)), True)
+        for rights in (functions_of("x", "x^3"), functions_of("x^3", "x")):
+            b, h = cleared(op, rights)
+            matrix = equations(b, h, 2)
+            columns = matrix.reduced()[1]
+            multipliers = Matrix([[row[k] for row in matrix] for k in columns], len(matrix)).duals()
+            kernel = [((of_poly(Poly(row[:3])),), row[3:]) for row in matrix.kernel()]
+            self.assertIs(takes(op, rights, Space(kernel, sides=2), ("rational", (), 2, columns, multipliers)), False)
+            self.assertIs(takes(op, rights, make_paper(op, rights)[0], with_greater(op, rights, [], 0)), True)
+
+    def test_negative_powers(self):
+        # All solutions have a zero at 0, but no power in a paper is below 0.
+        space = Space([(functions_of("x^2"), ())])
+        self.assertIs(takes(operator("x*D - 2"), (), space, ("rational", ((X, -1),), 1, (0,), (vector(-1),))), False)
+        self.assertIs(takes(operator("x*D - 2"), (), space, make_paper(operator("x*D - 2"))[1]), True)
+
     def test_great_numbers(self):
         # No time is spent on a degree or powers that nothing else in the paper explains.
         great = 10 ** 40

@@ -167,6 +167,29 @@ class Language(unittest.TestCase):
         self.assertEqual(stored & found, set())
         self.assertEqual(read - stored - found - METHODS - {"__init__"}, set())
 
+    def test_handlers(self):
+        own = {node.name for _, node in nodes(ast.ClassDef)}
+        for name, node in nodes(ast.FunctionDef):
+            caught = [part for part in ast.walk(node) if isinstance(part, ast.ExceptHandler)]
+            bound = [part.name for part in caught if part.name is not None]
+            self.assertEqual(len(bound), len(set(bound)), (name, node.name))
+            self.assertEqual(set(bound) & set(names_bound_in(node)), set())
+            for part in caught:
+                kinds = part.type.elts if isinstance(part.type, ast.Tuple) else [part.type]
+                for kind in kinds:
+                    self.assertIn(kind.id, own | {"KeyError", "ZeroDivisionError"}, (name, node.name))
+        for name, node in nodes(ast.Raise):
+            self.assertTrue(node.exc is None or node.exc.func.id in own, (name, node.lineno))
+
+    def test_decorators(self):
+        for name, node in nodes(ast.FunctionDef):
+            self.assertTrue({part.id for part in node.decorator_list} <= {"property", "classmethod"}, (name, node.name))
+
+    def test_generators(self):
+        makers = [node.name for _, node in nodes(ast.FunctionDef) if any(isinstance(part, ast.Yield) for part in ast.walk(node))]
+        self.assertEqual(sorted(makers), ["all_members", "terms"])
+        self.assertEqual([node.name for _, node in nodes(ast.FunctionDef) if node.name in makers].count("terms"), 1)
+
     def test_returns_of_double_underscore_methods(self):
         for name, node in nodes(ast.FunctionDef):
             if node.name in ("__len__", "__eq__", "__iter__"):

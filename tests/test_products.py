@@ -11,7 +11,7 @@ from indicial.errors import Refused
 from indicial.local import Exponents
 from indicial.operator import Operator, first_order
 from indicial.poly import Poly
-from indicial.products import PowerProduct, all_members, candidates, power_products, solves
+from indicial.products import PowerProduct, all_members, candidates, choices, power_products, solves
 from indicial.ratio import Ratio
 from indicial.roots import rational_roots
 from indicial.spaces import Space, rational_space
@@ -239,6 +239,21 @@ class Solutions(unittest.TestCase):
         # Without a rational exponent at the square roots of 2, or with one that is no integer.
         self.assertEqual(self.check(operator("2*x*(x^2 - 2)*D - 1")), ())
         self.assertEqual(self.check(operator("2*x*(x^2 - 2)*D - (x^2 - 2) - 2*x^2")), ())
+
+    def test_coefficients_that_are_zero(self):
+        self.assertEqual(self.check(operator("(x^2 - 2)*D^2 - 2")), ((PowerProduct(()), space_of("x^2 - 2")),))
+        self.assertEqual(self.check(operator("x^2*(x^2 - 2)*D^3")), ((PowerProduct(()), space_of("x^2", "x", "1")),))
+
+    def test_choices_that_are_tried(self):
+        def tried(text):
+            return [str(PowerProduct(factors)) for factors in choices(cleared(operator(text), ())[0])]
+
+        # Exponents 0 and 1/2 at 0 and at 1, and 0 and n at infinity.
+        sums = "(1/2)*(1/x + 1/(x - 1))"
+        self.assertEqual(tried(f"D^2 + {sums}*D"), ["1"])
+        self.assertEqual(tried(f"D^2 + {sums}*D - 9/(x*(x - 1))"), ["1", "x^(1/2)*(x - 1)^(1/2)"])
+        self.assertEqual(tried(f"D^2 + {sums}*D - 1/(4*x*(x - 1))"), ["(x - 1)^(1/2)", "x^(1/2)"])
+        self.assertEqual(tried(f"D^2 + {sums}*D - 1/(5*x*(x - 1))"), [])
 
     def test_many_candidates(self):
         # The greatest exponent at infinity leaves one of 2^14 choices.

@@ -211,6 +211,10 @@ class Right(unittest.TestCase):
                              ("", "done"), Console(), poly(1), ("", Reply), {}]
         for value in values:
             self.assertIs(is_right({}, value), False, value)
+        # What is no reply is none to a line with solutions either.
+        for value in others() + ["[1]", make_paper(operator("D")), ("space", "[1]", make_paper(operator("D")))]:
+            self.assertIs(is_right({}, ("solve D", value)), False)
+            self.assertIs(is_right({}, ("solve D", Reply("space", "[1]", value))), value == make_paper(operator("D")))
 
 
 if __name__ == "__main__":

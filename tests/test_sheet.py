@@ -159,6 +159,15 @@ class NoLines(Refusals):
             self.no_text(line, 0)
             self.no_text("  " + line + " ", 0)
 
+    def test_numbers_of_texts(self):
+        for word in PAIRS + ("apply",):
+            read_line({}, word + " x ; x")
+            for count in (1, 3, 4):
+                self.no_text(word + " " + " ; ".join("x" * count), 0)
+        for count in (2, 3):
+            self.no_text("products " + " ; ".join("x" * count), 0)
+            self.no_text("let op = " + " ; ".join("x" * count), 0)
+
     def test_a_form_comes_before_names(self):
         self.no_text("apply abc", 0)
         self.no_text("let abcdefghijklmn = abc", 0)
