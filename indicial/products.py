@@ -111,9 +111,9 @@ def power_products(operator):
 def choices(polys):
     """Return the choices of one class at each candidate that may belong to a solution, in their order.
 
-    The orders of a solution at all points add up to its degree, which is an exponent at infinity.
-    So what the least orders leave of the greatest exponent there is left, too, after a choice, and
-    differs by an integer from what they leave of an exponent.
+    The orders of a solution at all points add up to its degree, which is an exponent at infinity. So
+    there is an exponent at infinity that is by an integer from 0 on greater than the sum of the least
+    orders with these classes. What the greatest exponent leaves of such a sum never falls below 0.
     """
     places = rational_places(polys)
     degrees = Infinity(polys).rationals()
@@ -136,9 +136,9 @@ def is_count(number):
 
 
 def least_total(polys, points):
-    """Return a number that the orders of a solution at all but these points do not fall below in sum.
+    """Return the least sum of the orders of a solution at all other points, None if there is no solution.
 
-    The points are all rational zeros of the last coefficient. None stands for no solution.
+    The points given are the rational zeros of the last coefficient.
     """
     rest = squarefree_part(polys[-1])
     for s in points:
